@@ -1,0 +1,100 @@
+package tests
+
+import (
+	"bytes"
+	"go/ast"
+	"go/format"
+	"go/parser"
+	"go/token"
+	"os"
+	"path/filepath"
+	"slices"
+	"strconv"
+	"strings"
+	"testing"
+)
+
+var allowedImports = []string{
+	"bytes", "cmp", "container/heap", "errors", "iter", "maps", "math", "math/bits", "slices", "sort", "strconv", "strings",
+	"sync", "sync/atomic", "unicode", "unicode/utf8",
+}
+
+// parsed reads a file of the program; its text must be laid out as gofmt does it.
+func parsed(t *testing.T, fset *token.FileSet, path string) *ast.File {
+	t.Helper()
+	text, err := os.ReadFile(path)
+	if err != nil {
+		t.Fatal(err)
+	}
+	laid, err := format.Source(text)
+	if err != nil {
+		t.Fatal(err)
+	}
+	if !bytes.Equal(laid, text) {
+		t.Errorf("%s is not laid out by gofmt", path)
+	}
+	file, err := parser.ParseFile(fset, path, text, parser.ParseComments)
+	if err != nil {
+		t.Fatal(err)
+	}
+	return file
+}
+
+func TestProgramKeepsToTheLanguage(t *testing.T) {
+	paths, err := filepath.Glob("../impl/*")
+	if err != nil || len(paths) == 0 {
+		t.Fatal("no files", err)
+	}
+	for _, path := range paths {
+		if filepath.Ext(path) != ".go" {
+			t.Errorf("%s is no Go file", path)
+			continue
+		}
+		fset := token.NewFileSet()
+		file := parsed(t, fset, path)
+		for _, i := range file.Imports {
+			name, _ := strconv.Unquote(i.Path.Value)
+			if !slices.Contains(allowedImports, name) {
+				t.Errorf("%s imports %s", path, name)
+			}
+		}
+		for _, group := range file.Comments {
+			for _, c := range group.List {
+				if strings.HasPrefix(c.Text, "//go:") || strings.HasPrefix(c.Text, "// +build") {
+					t.Errorf("%s has a line %s", path, c.Text)
+				}
+			}
+		}
+		for _, d := range file.Decls {
+			if f, ok := d.(*ast.FuncDecl); ok {
+				if n := fset.Position(f.End()).Line - fset.Position(f.Pos()).Line + 1; n > 60 {
+					t.Errorf("%s: %s has %d lines", path, f.Name.Name, n)
+				}
+			}
+		}
+	}
+}
+
+// The way of the first stage: a table of the sixteen half bytes, an array
+// that is written out at its declaration.
+func TestSumHasATableOfHalfBytes(t *testing.T) {
+	file := parsed(t, token.NewFileSet(), "../impl/l01_codec.go")
+	for _, d := range file.Decls {
+		g, ok := d.(*ast.GenDecl)
+		if !ok || g.Tok != token.VAR {
+			continue
+		}
+		for _, s := range g.Specs {
+			for _, v := range s.(*ast.ValueSpec).Values {
+				lit, ok := v.(*ast.CompositeLit)
+				if !ok {
+					continue
+				}
+				if a, ok := lit.Type.(*ast.ArrayType); ok && a.Len != nil && len(lit.Elts) == 16 {
+					return
+				}
+			}
+		}
+	}
+	t.Error("there is none")
+}
