@@ -133,10 +133,10 @@ func pairPlace(list []Pair, key string) (at int, there bool) {
 	return at, at < len(list) && list[at].Key == key
 }
 
-// copyPairs gives nil of an empty list too, so that nil and an empty list
+// copyList gives nil of an empty list too, so that nil and an empty list
 // are answered alike.
-func copyPairs(list []Pair) []Pair {
-	return append([]Pair(nil), list...)
+func copyList[T any](list []T) []T {
+	return append([]T(nil), list...)
 }
 
 // PairGet gives the value of key.
@@ -161,9 +161,9 @@ func PairPut(list []Pair, key, value string) ([]Pair, int) {
 	if there {
 		behind = at + 1
 	} else if len(list) == MaxPairs {
-		return copyPairs(list), ErrFull
+		return copyList(list), ErrFull
 	}
-	out := append(copyPairs(list[:at]), Pair{Key: key, Value: value})
+	out := append(copyList(list[:at]), Pair{Key: key, Value: value})
 	return append(out, list[behind:]...), OK
 }
 
@@ -174,9 +174,9 @@ func PairDrop(list []Pair, key string) ([]Pair, int) {
 	}
 	at, there := pairPlace(list, key)
 	if !there {
-		return copyPairs(list), ErrNone
+		return copyList(list), ErrNone
 	}
-	return append(copyPairs(list[:at]), list[at+1:]...), OK
+	return append(copyList(list[:at]), list[at+1:]...), OK
 }
 
 // PairsUnder gives the pairs whose keys begin with prefix.

@@ -98,3 +98,18 @@ func TestSumHasATableOfHalfBytes(t *testing.T) {
 	}
 	t.Error("there is none")
 }
+
+// The way of the second stage: slices of slices.
+func TestDiskHasSlicesOfSlices(t *testing.T) {
+	there := false
+	ast.Inspect(parsed(t, token.NewFileSet(), "../impl/l02_disk.go"), func(n ast.Node) bool {
+		if outer, ok := n.(*ast.ArrayType); ok && outer.Len == nil {
+			inner, ok := outer.Elt.(*ast.ArrayType)
+			there = there || ok && inner.Len == nil
+		}
+		return true
+	})
+	if !there {
+		t.Error("there is none")
+	}
+}
