@@ -113,3 +113,34 @@ func TestDiskHasSlicesOfSlices(t *testing.T) {
 		t.Error("there is none")
 	}
 }
+
+// The ways of the third stage: nodes behind pointers, functions that call
+// themselves, slices of three indexes.
+func TestTreesHaveTheirWays(t *testing.T) {
+	pointers, recursions, slices := 0, 0, 0
+	for _, d := range parsed(t, token.NewFileSet(), "../impl/l03_tree.go").Decls {
+		f, isFunc := d.(*ast.FuncDecl)
+		ast.Inspect(d, func(n ast.Node) bool {
+			switch x := n.(type) {
+			case *ast.StructType:
+				for _, field := range x.Fields.List {
+					if _, ok := field.Type.(*ast.StarExpr); ok {
+						pointers++
+					}
+				}
+			case *ast.SliceExpr:
+				if x.Slice3 {
+					slices++
+				}
+			case *ast.CallExpr:
+				if s, ok := x.Fun.(*ast.SelectorExpr); ok && isFunc && f.Recv != nil && s.Sel.Name == f.Name.Name {
+					recursions++
+				}
+			}
+			return true
+		})
+	}
+	if pointers == 0 || recursions == 0 || slices == 0 {
+		t.Errorf("%d pointers, %d functions that call themselves, %d slices of three indexes", pointers, recursions, slices)
+	}
+}
