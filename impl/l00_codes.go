@@ -5,6 +5,8 @@ const (
 	MaxList = 4096
 	MaxName = 40
 
+	mostShort = 8
+
 	OK        = 0
 	ErrBad    = 1
 	ErrLong   = 2
@@ -52,6 +54,10 @@ func NameOK(t string) bool {
 		}
 	}
 	return true
+}
+
+func shortName(t string) bool {
+	return NameOK(t) && len(t) <= mostShort
 }
 
 // CodeWord gives the word of a code, the empty text for any other number.

@@ -144,3 +144,58 @@ func TestTreesHaveTheirWays(t *testing.T) {
 		t.Errorf("%d pointers, %d functions that call themselves, %d slices of three indexes", pointers, recursions, slices)
 	}
 }
+
+// The ways of the fourth stage: a struct with the superblock embedded, whose
+// own methods call the superblock's as theirs.
+func TestTheStoreHasItsWays(t *testing.T) {
+	embeds, methods, called := map[string]bool{}, map[string]bool{}, 0
+	decls := parsed(t, token.NewFileSet(), "../impl/l04_store.go").Decls
+	for _, d := range decls {
+		if f, ok := d.(*ast.FuncDecl); ok && receiver(f) == "Super" {
+			methods[f.Name.Name] = true
+		}
+		ast.Inspect(d, func(n ast.Node) bool {
+			if s, ok := n.(*ast.TypeSpec); ok {
+				embeds[s.Name.Name] = hasEmbedded(s, "Super")
+			}
+			return true
+		})
+	}
+	for _, d := range decls {
+		f, ok := d.(*ast.FuncDecl)
+		if !ok || !embeds[receiver(f)] {
+			continue
+		}
+		ast.Inspect(f, func(n ast.Node) bool {
+			if call, ok := n.(*ast.CallExpr); ok {
+				if s, ok := call.Fun.(*ast.SelectorExpr); ok && methods[s.Sel.Name] {
+					called++
+				}
+			}
+			return true
+		})
+	}
+	if called == 0 {
+		t.Errorf("no method of the superblock is called as one's own: embedded in %v, its methods %v", embeds, methods)
+	}
+}
+
+func receiver(f *ast.FuncDecl) string {
+	if f.Recv == nil {
+		return ""
+	}
+	of := f.Recv.List[0].Type
+	if p, ok := of.(*ast.StarExpr); ok {
+		of = p.X
+	}
+	name, _ := of.(*ast.Ident)
+	return name.Name
+}
+
+func hasEmbedded(s *ast.TypeSpec, name string) bool {
+	fields, ok := s.Type.(*ast.StructType)
+	return ok && slices.ContainsFunc(fields.Fields.List, func(f *ast.Field) bool {
+		id, ok := f.Type.(*ast.Ident)
+		return ok && len(f.Names) == 0 && id.Name == name
+	})
+}

@@ -168,28 +168,34 @@ func mustNotReadNode(t *testing.T, what string, b []byte, want int) {
 	}
 }
 
-// Each bit that is changed, each byte that is cut or joined breaks the seal.
+// breakSeal hands on sealed bytes of which a bit is changed, or some are cut or
+// joined, with the code that is due.
+func breakSeal(b []byte, refuse func(what string, b []byte, want int)) {
+	for at := range b {
+		for bit := range 8 {
+			other := slices.Clone(b)
+			other[at] ^= 1 << bit
+			refuse("a bit changed", other, impl.ErrSum)
+		}
+		refuse("cut at the end", b[:at], impl.ErrSum)
+		if at > 0 {
+			refuse("cut ahead", b[at:], sumUnlessEmpty(b[at:]))
+		}
+	}
+	for _, more := range []string{"\x00", "x", "s", "\x00\x00\x00\x00", string(b)} {
+		refuse("longer", append(slices.Clone(b), more...), impl.ErrSum)
+		refuse("longer ahead", append([]byte(more), b...), impl.ErrSum)
+	}
+	body := len(b) - 4
+	swapped := append(slices.Clone(b[:body]), b[body+3], b[body+2], b[body+1], b[body])
+	refuse("the lower bytes of the sum first", swapped, impl.ErrSum)
+}
+
 func TestNodeBytesChanged(t *testing.T) {
 	for what, row := range rightNodes() {
-		b := sealedText(row.text)
-		for at := range b {
-			for bit := range 8 {
-				other := slices.Clone(b)
-				other[at] ^= 1 << bit
-				mustNotReadNode(t, what+", a bit changed", other, impl.ErrSum)
-			}
-			mustNotReadNode(t, what+", cut at the end", b[:at], impl.ErrSum)
-			if at > 0 {
-				mustNotReadNode(t, what+", cut ahead", b[at:], sumUnlessEmpty(b[at:]))
-			}
-		}
-		for _, more := range []string{"\x00", "x", "\x00\x00\x00\x00", string(b)} {
-			mustNotReadNode(t, what+", longer", append(slices.Clone(b), more...), impl.ErrSum)
-			mustNotReadNode(t, what+", longer ahead", append([]byte(more), b...), impl.ErrSum)
-		}
-		body := len(b) - 4
-		swapped := append(slices.Clone(b[:body]), b[body+3], b[body+2], b[body+1], b[body])
-		mustNotReadNode(t, what+", the lower bytes of the sum first", swapped, impl.ErrSum)
+		breakSeal(sealedText(row.text), func(how string, b []byte, want int) {
+			mustNotReadNode(t, what+", "+how, b, want)
+		})
 	}
 }
 

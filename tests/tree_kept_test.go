@@ -4,7 +4,6 @@ import (
 	"fmt"
 	"math"
 	"math/rand"
-	"reflect"
 	"slices"
 	"strings"
 	"testing"
@@ -37,7 +36,7 @@ func guardedHeap(h impl.Heap) (impl.Heap, func() bool) {
 	was := slices.Clone(all)
 	return impl.Heap{Nodes: all[:len(h.Nodes)]}, func() bool {
 		for i, n := range was {
-			if !reflect.DeepEqual(n, all[i]) {
+			if !sameNode(n, all[i]) {
 				return false
 			}
 		}
