@@ -139,6 +139,13 @@ func copyList[T any](list []T) []T {
 	return append([]T(nil), list...)
 }
 
+// replaced gives the list with these items in place of its own from at to
+// behind, in new memory.
+func replaced[T any](list []T, at, behind int, items ...T) []T {
+	out := append(copyList(list[:at]), items...)
+	return append(out, list[behind:]...)
+}
+
 // PairGet gives the value of key.
 func PairGet(list []Pair, key string) (string, int) {
 	if code := pairsFault(list, key, ""); code != OK {
@@ -163,8 +170,7 @@ func PairPut(list []Pair, key, value string) ([]Pair, int) {
 	} else if len(list) == MaxPairs {
 		return copyList(list), ErrFull
 	}
-	out := append(copyList(list[:at]), Pair{Key: key, Value: value})
-	return append(out, list[behind:]...), OK
+	return replaced(list, at, behind, Pair{Key: key, Value: value}), OK
 }
 
 // PairDrop gives the pairs without key.
@@ -176,7 +182,7 @@ func PairDrop(list []Pair, key string) ([]Pair, int) {
 	if !there {
 		return copyList(list), ErrNone
 	}
-	return append(copyList(list[:at]), list[at+1:]...), OK
+	return replaced(list, at, at+1), OK
 }
 
 // PairsUnder gives the pairs whose keys begin with prefix.

@@ -4,8 +4,10 @@ import (
 	"bytes"
 	"go/ast"
 	"go/format"
+	"go/importer"
 	"go/parser"
 	"go/token"
+	"go/types"
 	"os"
 	"path/filepath"
 	"slices"
@@ -198,4 +200,45 @@ func hasEmbedded(s *ast.TypeSpec, name string) bool {
 		id, ok := f.Type.(*ast.Ident)
 		return ok && len(f.Names) == 0 && id.Name == name
 	})
+}
+
+// The ways of the fifth stage: a function that takes any number of roots, and
+// structs that are held against each other in the file of the snapshots.
+func TestSnapshotsHaveTheirWays(t *testing.T) {
+	paths, err := filepath.Glob("../impl/*.go")
+	if err != nil {
+		t.Fatal(err)
+	}
+	fset := token.NewFileSet()
+	var files []*ast.File
+	for _, path := range paths {
+		files = append(files, parsed(t, fset, path))
+	}
+	info := &types.Info{Types: map[ast.Expr]types.TypeAndValue{}}
+	config := types.Config{Importer: importer.ForCompiler(fset, "source", nil)}
+	if _, err := config.Check("impl", fset, files, info); err != nil {
+		t.Fatal(err)
+	}
+	variadics, compared := 0, 0
+	for i, file := range files {
+		ast.Inspect(file, func(n ast.Node) bool {
+			switch x := n.(type) {
+			case *ast.Field:
+				if of, ok := x.Type.(*ast.Ellipsis); ok && types.ExprString(of.Elt) == "int" && len(x.Names) == 1 && x.Names[0].Name == "roots" {
+					variadics++
+				}
+			case *ast.BinaryExpr:
+				of, ok := info.Types[x.X]
+				if ok && (x.Op == token.EQL || x.Op == token.NEQ) && filepath.Base(paths[i]) == "l05_snap.go" {
+					if _, ok := of.Type.Underlying().(*types.Struct); ok {
+						compared++
+					}
+				}
+			}
+			return true
+		})
+	}
+	if variadics == 0 || compared == 0 {
+		t.Errorf("%d functions of any number of roots, %d structs compared", variadics, compared)
+	}
 }

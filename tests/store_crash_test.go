@@ -113,29 +113,31 @@ func TestPowerGoesAtAPut(t *testing.T) {
 	}
 }
 
-// The power goes at the second sync, of which a call has no way to be armed:
-// its writes are done by hand. The store is opened as it was ahead of the
-// commit if the superblock is lost, as it is behind it if that is kept.
-func TestPowerGoesAtTheSuperblock(t *testing.T) {
-	holds := func(what string, s, done impl.Store) {
-		t.Helper()
-		d := impl.Disk{Sectors: doneOn(s.Disk.Sectors, pageWrites(s, done.Heap, done.Super)...)}
-		mustOpen(t, what+", the pages sure", d, s)
-		d, code := impl.DiskWrite(d, done.Super.Gen%2, superText(done.Super))
+// mustTurnAtTheSuperblock lets the power go at the second sync of the commit
+// that leads from s to done. No call has a way to be armed there: its writes
+// are done by hand. The store is opened as it was ahead of the commit if the
+// superblock is lost, as it is behind it if that is kept.
+func mustTurnAtTheSuperblock(t *testing.T, what string, s, done impl.Store) {
+	t.Helper()
+	d := impl.Disk{Sectors: doneOn(s.Disk.Sectors, pageWrites(s, done.Heap, done.Super)...)}
+	mustOpen(t, what+", the pages sure", d, s)
+	d, code := impl.DiskWrite(d, done.Super.Gen%2, superText(done.Super))
+	mustCode(t, what, code, impl.OK)
+	for _, keep := range [][]int{nil, {0}, {0, 1}} {
+		crash, code := impl.DiskCrash(d, keep)
 		mustCode(t, what, code, impl.OK)
-		for _, keep := range [][]int{nil, {0}, {0, 1}} {
-			crash, code := impl.DiskCrash(d, keep)
-			mustCode(t, what, code, impl.OK)
-			mustOpen(t, what+", the superblock lost", crash, s)
-		}
-		crash, code := impl.DiskCrash(d, []int{1})
-		mustCode(t, what, code, impl.OK)
-		mustOpen(t, what+", the superblock kept", crash, done)
-		mustDisk(t, what+", the superblock kept", crash, done.Disk)
+		mustOpen(t, what+", the superblock lost", crash, s)
 	}
+	crash, code := impl.DiskCrash(d, []int{1})
+	mustCode(t, what, code, impl.OK)
+	mustOpen(t, what+", the superblock kept", crash, done)
+	mustDisk(t, what+", the superblock kept", crash, done.Disk)
+}
+
+func TestPowerGoesAtTheSuperblock(t *testing.T) {
 	for what, row := range commits() {
 		got, _, _ := impl.CommitRoot(row.s, row.h, row.root, row.snaps)
-		holds(what, row.s, got)
+		mustTurnAtTheSuperblock(t, what, row.s, got)
 	}
 	for what, s := range rightStores() {
 		if s.Disk.Armed || s.Super.Gen == 200 {
@@ -143,7 +145,7 @@ func TestPowerGoesAtTheSuperblock(t *testing.T) {
 		}
 		for of, list := range puts() {
 			if got, _, code := impl.PutPairs(s, list); code == impl.OK {
-				holds(of+" into "+what, s, got)
+				mustTurnAtTheSuperblock(t, of+" into "+what, s, got)
 			}
 		}
 	}

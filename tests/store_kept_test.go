@@ -44,6 +44,8 @@ type storeArgs struct {
 	root  int
 	snaps []impl.Snap
 	list  []impl.Pair
+	name  string
+	tick  int
 }
 
 // storeCalls are the calls that answer a store.
@@ -57,7 +59,10 @@ func storeCalls() map[string]func(a storeArgs) (impl.Store, bool, int) {
 		"CommitRoot alike": func(a storeArgs) (impl.Store, bool, int) {
 			return impl.CommitRoot(a.s, a.s.Heap, a.root, a.s.Super.Snaps)
 		},
-		"PutPairs": func(a storeArgs) (impl.Store, bool, int) { return impl.PutPairs(a.s, a.list) },
+		"PutPairs":   func(a storeArgs) (impl.Store, bool, int) { return impl.PutPairs(a.s, a.list) },
+		"TakeSnap":   func(a storeArgs) (impl.Store, bool, int) { return impl.TakeSnap(a.s, a.name, a.tick) },
+		"DropSnap":   func(a storeArgs) (impl.Store, bool, int) { return impl.DropSnap(a.s, a.name) },
+		"PruneSnaps": func(a storeArgs) (impl.Store, bool, int) { return impl.PruneSnaps(a.s, a.tick) },
 	}
 }
 
@@ -65,13 +70,12 @@ func storeCalls() map[string]func(a storeArgs) (impl.Store, bool, int) {
 // changed, that the answer is new memory, and that a second call answers alike.
 func storeApart(t *testing.T, what string, a storeArgs, call func(storeArgs) (impl.Store, bool, int)) {
 	t.Helper()
-	var in storeArgs
+	in := a
 	var same [4]func() bool
 	in.s, same[0] = guardedStore(a.s)
 	in.h, same[1] = guardedHeap(a.h)
 	in.snaps, same[2] = guarded(a.snaps, markSnap)
 	in.list, same[3] = guarded(a.list, markPair)
-	in.root = a.root
 	kept := func() bool { return same[0]() && same[1]() && same[2]() && same[3]() }
 	first, alive, code := call(in)
 	if !kept() {
@@ -126,28 +130,42 @@ func TestStoreCallsKeepApart(t *testing.T) {
 	}
 }
 
+// storePairsApart asks a guarded store for pairs, and that nothing of it is
+// changed, that the answer is new memory, and that a second call answers alike.
+func storePairsApart(t *testing.T, what string, s impl.Store, call func(impl.Store) ([]impl.Pair, int)) {
+	t.Helper()
+	in, same := guardedStore(s)
+	first, code := call(in)
+	if !same() {
+		t.Fatalf("%s: an argument is changed", what)
+	}
+	second, again := call(in)
+	if code != again || !slices.Equal(first, second) {
+		t.Fatalf("%s: the second answer is another one", what)
+	}
+	was := slices.Clone(second)
+	spoil(first, markPair)
+	if !same() {
+		t.Fatalf("%s: an answer shares memory with an argument", what)
+	}
+	spoilStore(in)
+	if !slices.Equal(second, was) {
+		t.Fatalf("%s: an answer changes with an argument", what)
+	}
+}
+
 func TestStoresAreAskedAndKept(t *testing.T) {
 	for what, s := range allStores() {
+		storePairsApart(t, "StorePairs, "+what, s, impl.StorePairs)
 		in, same := guardedStore(s)
 		right := impl.StoreOK(in)
-		pairs, code := impl.StorePairs(in)
-		free, code2 := impl.FreePages(in)
+		free, code := impl.FreePages(in)
 		if !same() {
 			t.Fatalf("%s: an argument is changed", what)
 		}
-		again, code3 := impl.StorePairs(in)
-		free2, code4 := impl.FreePages(in)
-		if right != impl.StoreOK(s) || !slices.Equal(pairs, again) || free != free2 || code != code3 || code2 != code4 {
+		free2, code2 := impl.FreePages(in)
+		if right != impl.StoreOK(s) || free != free2 || code != code2 {
 			t.Fatalf("%s: the second answer is another one", what)
-		}
-		was := slices.Clone(again)
-		spoil(pairs, markPair)
-		if !same() {
-			t.Fatalf("%s: an answer shares memory with an argument", what)
-		}
-		spoilStore(in)
-		if !slices.Equal(again, was) {
-			t.Fatalf("%s: an answer changes with an argument", what)
 		}
 	}
 }
