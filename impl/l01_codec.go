@@ -9,6 +9,7 @@ const (
 
 	mostFields = 200
 	mostField  = 300
+	numberSize = 4
 )
 
 type Pair struct{ Key, Value string }
@@ -34,6 +35,17 @@ func Check32(b []byte) int {
 		sum = sum>>4 ^ halfSums[sum&15]
 	}
 	return int(^sum)
+}
+
+// numberBytes gives the four bytes of a number.
+func numberBytes(n int) []byte {
+	return []byte{byte(n >> 24), byte(n >> 16), byte(n >> 8), byte(n)}
+}
+
+// fieldsOf gives the bytes of a few fields that are known to be short.
+func fieldsOf(list ...string) []byte {
+	b, _ := FieldsBytes(list)
+	return b
 }
 
 // FieldsBytes gives the bytes of a list of fields.

@@ -242,3 +242,27 @@ func TestSnapshotsHaveTheirWays(t *testing.T) {
 		t.Errorf("%d functions of any number of roots, %d structs compared", variadics, compared)
 	}
 }
+
+// The ways of the sixth stage: a type that is an error and wraps another one,
+// and errors that are found by errors.As and errors.Is.
+func TestBackupsHaveTheirWays(t *testing.T) {
+	methods, found := map[string][]string{}, map[string]bool{}
+	for _, d := range parsed(t, token.NewFileSet(), "../impl/l06_backup.go").Decls {
+		if f, ok := d.(*ast.FuncDecl); ok && f.Recv != nil {
+			methods[receiver(f)] = append(methods[receiver(f)], f.Name.Name)
+		}
+		ast.Inspect(d, func(n ast.Node) bool {
+			if call, ok := n.(*ast.CallExpr); ok {
+				found[types.ExprString(call.Fun)] = true
+			}
+			return true
+		})
+	}
+	wraps := false
+	for _, names := range methods {
+		wraps = wraps || slices.Contains(names, "Error") && slices.Contains(names, "Unwrap")
+	}
+	if !wraps || !found["errors.As"] || !found["errors.Is"] {
+		t.Errorf("an error that wraps %t, errors.As %t, errors.Is %t", wraps, found["errors.As"], found["errors.Is"])
+	}
+}
