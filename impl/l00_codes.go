@@ -1,11 +1,17 @@
 package impl
 
+import (
+	"strconv"
+	"strings"
+)
+
 const (
 	MaxText = 65536
 	MaxList = 4096
 	MaxName = 40
 
-	mostShort = 8
+	mostShort  = 8
+	mostDigits = 18
 
 	OK        = 0
 	ErrBad    = 1
@@ -58,6 +64,13 @@ func NameOK(t string) bool {
 
 func shortName(t string) bool {
 	return NameOK(t) && len(t) <= mostShort
+}
+
+// readNumber gives the number whose text t is: told again it must be just t.
+func readNumber(t string) (int, bool) {
+	n, err := strconv.Atoi(t)
+	digits := strings.TrimPrefix(t, "-")
+	return n, err == nil && len(digits) <= mostDigits && strconv.Itoa(n) == t
 }
 
 // CodeWord gives the word of a code, the empty text for any other number.

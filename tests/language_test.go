@@ -266,3 +266,29 @@ func TestBackupsHaveTheirWays(t *testing.T) {
 		t.Errorf("an error that wraps %t, errors.As %t, errors.Is %t", wraps, found["errors.As"], found["errors.Is"])
 	}
 }
+
+// The ways of the seventh stage: a map from keys to folders, which is cleared,
+// and constants by iota.
+func TestMailboxesHaveTheirWays(t *testing.T) {
+	maps, clears, iotas := 0, 0, 0
+	ast.Inspect(parsed(t, token.NewFileSet(), "../impl/l07_mail.go"), func(n ast.Node) bool {
+		switch x := n.(type) {
+		case *ast.MapType:
+			if types.ExprString(x.Key) == "string" && types.ExprString(x.Value) == "Folder" {
+				maps++
+			}
+		case *ast.CallExpr:
+			if types.ExprString(x.Fun) == "clear" {
+				clears++
+			}
+		case *ast.Ident:
+			if x.Name == "iota" {
+				iotas++
+			}
+		}
+		return true
+	})
+	if maps == 0 || clears == 0 || iotas == 0 {
+		t.Errorf("%d maps from keys to folders, %d calls of clear, %d constants by iota", maps, clears, iotas)
+	}
+}
