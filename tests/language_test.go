@@ -292,3 +292,37 @@ func TestMailboxesHaveTheirWays(t *testing.T) {
 		t.Errorf("%d maps from keys to folders, %d calls of clear, %d constants by iota", maps, clears, iotas)
 	}
 }
+
+// The ways of the eighth stage: a scanner whose methods take it by pointer,
+// and a generic filter that a search goes through.
+func TestMessagesHaveTheirWays(t *testing.T) {
+	scanners, others, filters, filtered := 0, 0, map[string]bool{}, 0
+	decls := parsed(t, token.NewFileSet(), "../impl/l08_message.go").Decls
+	for _, d := range decls {
+		f, ok := d.(*ast.FuncDecl)
+		if !ok {
+			continue
+		}
+		if receiver(f) == "scanner" {
+			if _, ok := f.Recv.List[0].Type.(*ast.StarExpr); ok {
+				scanners++
+			} else {
+				others++
+			}
+		}
+		if f.Type.TypeParams != nil && f.Type.Results.NumFields() == 1 {
+			filters[f.Name.Name] = true
+		}
+	}
+	for _, d := range decls {
+		ast.Inspect(d, func(n ast.Node) bool {
+			if call, ok := n.(*ast.CallExpr); ok && filters[types.ExprString(call.Fun)] {
+				filtered++
+			}
+			return true
+		})
+	}
+	if scanners == 0 || others > 0 || filtered == 0 {
+		t.Errorf("%d methods of the scanner by pointer, %d by value, %d calls of a generic filter", scanners, others, filtered)
+	}
+}
