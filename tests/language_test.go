@@ -326,3 +326,53 @@ func TestMessagesHaveTheirWays(t *testing.T) {
 		t.Errorf("%d methods of the scanner by pointer, %d by value, %d calls of a generic filter", scanners, others, filtered)
 	}
 }
+
+// The ways of the ninth stage: states that are functions of a type of their
+// own, told by a method, and closures that hold the functions they were made
+// of.
+func TestSessionsHaveTheirWays(t *testing.T) {
+	states, told, closures := map[string]bool{}, 0, 0
+	decls := parsed(t, token.NewFileSet(), "../impl/l09_smtp.go").Decls
+	for _, d := range decls {
+		ast.Inspect(d, func(n ast.Node) bool {
+			if s, ok := n.(*ast.TypeSpec); ok {
+				_, states[s.Name.Name] = s.Type.(*ast.FuncType)
+			}
+			return true
+		})
+	}
+	for _, d := range decls {
+		f, ok := d.(*ast.FuncDecl)
+		if !ok || f.Type.Results.NumFields() != 1 || !states[types.ExprString(f.Type.Results.List[0].Type)] {
+			continue
+		}
+		if f.Recv != nil {
+			told++
+		}
+		ast.Inspect(f.Body, func(n ast.Node) bool {
+			if lit, ok := n.(*ast.FuncLit); ok && callsGiven(f, lit) {
+				closures++
+			}
+			return true
+		})
+	}
+	if told == 0 || closures == 0 {
+		t.Errorf("%d methods tell a state, %d closures call what they were made of", told, closures)
+	}
+}
+
+// callsGiven tells whether a function literal calls a parameter of the
+// function that it stands in.
+func callsGiven(f *ast.FuncDecl, lit *ast.FuncLit) bool {
+	called := false
+	ast.Inspect(lit, func(n ast.Node) bool {
+		call, ok := n.(*ast.CallExpr)
+		for _, field := range f.Type.Params.List {
+			for _, name := range field.Names {
+				called = called || ok && types.ExprString(call.Fun) == name.Name
+			}
+		}
+		return true
+	})
+	return called
+}
