@@ -376,3 +376,44 @@ func callsGiven(f *ast.FuncDecl, lit *ast.FuncLit) bool {
 	})
 	return called
 }
+
+// The ways of the tenth stage: maps whose values are all method expressions,
+// which a method asks by verbs, and methods that take any number of texts.
+func TestReadersHaveTheirWays(t *testing.T) {
+	methods, expressions, others, variadics := map[string]bool{}, 0, 0, 0
+	decls := parsed(t, token.NewFileSet(), "../impl/l10_imap.go").Decls
+	for _, d := range decls {
+		f, ok := d.(*ast.FuncDecl)
+		if !ok || f.Recv == nil {
+			continue
+		}
+		methods["(*"+receiver(f)+")."+f.Name.Name] = true
+		for _, field := range f.Type.Params.List {
+			if of, ok := field.Type.(*ast.Ellipsis); ok && types.ExprString(of.Elt) == "string" {
+				variadics++
+			}
+		}
+	}
+	for _, d := range decls {
+		ast.Inspect(d, func(n ast.Node) bool {
+			lit, ok := n.(*ast.CompositeLit)
+			if !ok {
+				return true
+			}
+			if _, ok := lit.Type.(*ast.MapType); !ok {
+				return true
+			}
+			for _, e := range lit.Elts {
+				if methods[types.ExprString(e.(*ast.KeyValueExpr).Value)] {
+					expressions++
+				} else {
+					others++
+				}
+			}
+			return true
+		})
+	}
+	if expressions != 13 || others > 0 || variadics == 0 {
+		t.Errorf("%d method expressions in maps, %d other values, %d methods of any number of texts", expressions, others, variadics)
+	}
+}
