@@ -287,6 +287,8 @@ func TestOrderOfCodesOfCommands(t *testing.T) {
 		{"login twice, as nobody", town(), known("ann"), "login none x", "NO state"},
 		{"login twice, the User is gone", gone, known("ann"), "login bob berry", "NO state"},
 		{"list, without a User, with more", town(), newcomer(), "list x", "BAD"},
+		{"list, nobody, with more", gone, known("ann"), "list x", "BAD"},
+		{"list, nobody", gone, known("ann"), "list", "OK"},
 		{"select, without a User, no name", town(), newcomer(), "select 9", "NO state"},
 		{"select, without a User, with more", town(), newcomer(), "select 9 9", "BAD"},
 		{"select, no name, nobody", gone, known("ann"), "select 9", "NO name"},
@@ -366,7 +368,7 @@ func TestCommandsAskForTheirs(t *testing.T) {
 			if lacks := asks >= 1 && s.User == "" || asks >= 2 && s.Folder == ""; lacks && end != "NO state" {
 				t.Errorf("%+v: %q: %q", s, line, told.said)
 			}
-			if asks >= 1 && s.User == "none" && s.Folder != "" && end != "NO user" || asks >= 2 && s.User == "ann" && s.Folder == "none" && end != "NO folder" {
+			if asks >= 1 && s.User == "none" && s.Folder != "" && end != "NO user" && verb != "list" || asks >= 2 && s.User == "ann" && s.Folder == "none" && end != "NO folder" {
 				t.Errorf("%+v: %q: %q", s, line, told.said)
 			}
 		}

@@ -137,7 +137,10 @@ func commandByHand(told *imapTold, words []string) int {
 		}
 		s.User = words[1]
 	case "list":
-		a.call = "ListFolders"
+		// No code: a User that is gone has no key here.
+		for _, key := range b.under("f/" + s.User + "/") {
+			told.said = append(told.said, "* LIST "+strings.TrimPrefix(key, "f/"+s.User+"/"))
+		}
 	case "select":
 		a.call, a.folder = "FolderAt", words[1]
 		s.Folder = ""
@@ -173,9 +176,6 @@ func askedByHand(told *imapTold, a mailAsk) int {
 	}
 	if a.answersPairs() {
 		told.pairs = due.pairs
-	}
-	for _, name := range due.names {
-		told.said = append(told.said, "* LIST "+name)
 	}
 	for _, uid := range due.uids {
 		told.said = append(told.said, fmt.Sprint("* EXPUNGE ", uid))

@@ -144,19 +144,51 @@ func TestLogin(t *testing.T) {
 	mustHearOnly(t, "nobody is there", pairsOf("v", "1"), newcomer(), "a login ann apple", "a NO user")
 }
 
+// listings are the line `list` in small letters, in great ones, and in both.
+func listings() []string { return []string{"a list", "a LIST", "a List", "a lIsT"} }
+
+// Each folder is told in its order, whatever the Folder of the session is.
 func TestList(t *testing.T) {
-	for _, s := range []impl.Imap{known("ann"), inside("ann", "in"), inside("ann", "none")} {
-		mustHearOnly(t, "several", town(), s, "a list", "* LIST in", "* LIST inbox", "* LIST work", "a OK")
-		mustHearOnly(t, "gone", goneUser(), s, "a list", "a NO user")
-	}
-	mustHearOnly(t, "one", town(), known("an"), "a list", "* LIST inbox", "a OK")
-	mustHearOnly(t, "one", town(), known("bob"), "a list", "* LIST inbox", "a OK")
 	list, said := town(), []string{}
 	for _, name := range []string{"A", "Z", "_", "_a", "a", "a0", "a1", "aa", "in", "inbox", "inboxx", "z"} {
 		list = mailWith(list, "f/an/"+name, "1 1")
 		said = append(said, "* LIST "+name)
 	}
-	mustHearOnly(t, "by their names", list, known("an"), "a list", append(said, "a OK")...)
+	for _, line := range listings() {
+		for _, s := range []impl.Imap{known("ann"), inside("ann", "in"), inside("ann", "none")} {
+			mustHearOnly(t, "several", town(), s, line, "* LIST in", "* LIST inbox", "* LIST work", "a OK")
+		}
+		mustHearOnly(t, "one", town(), known("an"), line, "* LIST inbox", "a OK")
+		mustHearOnly(t, "one", town(), known("bob"), line, "* LIST inbox", "a OK")
+		mustHearOnly(t, "by their names", list, known("an"), line, append(slices.Clone(said), "a OK")...)
+		mustHearOnly(t, "without a User", town(), newcomer(), line, "a NO state")
+		mustHearOnly(t, "nobody is there", pairsOf("v", "1"), newcomer(), line, "a NO state")
+	}
+}
+
+// A User that is gone has no folder, so that nothing is told but the end. What
+// others have is not told, of names that begin alike neither.
+func TestListOfNobody(t *testing.T) {
+	stores := map[string][]impl.Pair{
+		"ann is gone":          goneUser(),
+		"nobody is there":      pairsOf("v", "1"),
+		"others with her name": mailWith(goneUser(), "u/ann_", "x", "f/ann_/inbox", "1 1", "f/ann_/work", "1 1", "u/Ann", "x", "f/Ann/inbox", "1 1"),
+		"no room":              mailWith(goneUser(), "v", "10000"),
+	}
+	for what, list := range stores {
+		for _, s := range []impl.Imap{known("ann"), inside("ann", "inbox"), inside("ann", "work"), inside("ann", "none"), known("a"), inside("a", "inbox"), known("eight_08")} {
+			for _, line := range listings() {
+				mustHearOnly(t, what, list, s, line, "a OK")
+				mustHearOnly(t, what, list, s, line+" inbox", "a BAD")
+				mustHearOnly(t, what, list, s, line+" ", "a BAD")
+			}
+			// The other commands that ask for a User miss her.
+			mustHearOnly(t, what, list, s, "a create new", "a NO user")
+			mustHearOnly(t, what, list, s, "a delete work", "a NO user")
+			mustHearOnly(t, what, list, s, "a rename work new", "a NO user")
+			mustHearAs(t, what, list, s, "a select inbox", known(s.User), "a NO user")
+		}
+	}
 }
 
 func TestSelect(t *testing.T) {
