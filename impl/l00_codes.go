@@ -66,6 +66,15 @@ func shortName(t string) bool {
 	return NameOK(t) && len(t) <= mostShort
 }
 
+func allShort(names ...string) bool {
+	for _, name := range names {
+		if !shortName(name) {
+			return false
+		}
+	}
+	return true
+}
+
 // readNumber gives the number whose text t is: told again it must be just t.
 func readNumber(t string) (int, bool) {
 	n, err := strconv.Atoi(t)

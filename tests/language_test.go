@@ -417,3 +417,60 @@ func TestReadersHaveTheirWays(t *testing.T) {
 		t.Errorf("%d method expressions in maps, %d other values, %d methods of any number of texts", expressions, others, variadics)
 	}
 }
+
+// The ways of the eleventh stage: two sorts of sessions that embed one core,
+// each of which calls the core's methods as its own.
+func TestTheServerHasItsWays(t *testing.T) {
+	structs, embeds, methods := map[string]bool{}, map[string][]string{}, map[string][]string{}
+	decls := parsed(t, token.NewFileSet(), "../impl/l11_server.go").Decls
+	for _, d := range decls {
+		if f, ok := d.(*ast.FuncDecl); ok {
+			methods[receiver(f)] = append(methods[receiver(f)], f.Name.Name)
+		}
+		ast.Inspect(d, func(n ast.Node) bool {
+			if s, ok := n.(*ast.TypeSpec); ok {
+				structs[s.Name.Name] = true
+			}
+			return true
+		})
+	}
+	for _, d := range decls {
+		ast.Inspect(d, func(n ast.Node) bool {
+			for of := range structs {
+				if s, ok := n.(*ast.TypeSpec); ok && hasEmbedded(s, of) {
+					embeds[of] = append(embeds[of], s.Name.Name)
+				}
+			}
+			return true
+		})
+	}
+	sorts := 0
+	for of, sort := range embeds {
+		if len(sort) == 2 && callsOf(decls, sort[0], methods[of]) > 0 && callsOf(decls, sort[1], methods[of]) > 0 {
+			sorts++
+		}
+	}
+	if sorts != 1 {
+		t.Errorf("%d cores of two sorts: embedded are %v, of methods %v", sorts, embeds, methods)
+	}
+}
+
+// callsOf counts the calls of these methods in the methods of a type.
+func callsOf(decls []ast.Decl, of string, methods []string) int {
+	called := 0
+	for _, d := range decls {
+		f, ok := d.(*ast.FuncDecl)
+		if !ok || receiver(f) != of {
+			continue
+		}
+		ast.Inspect(f, func(n ast.Node) bool {
+			if call, ok := n.(*ast.CallExpr); ok {
+				if s, ok := call.Fun.(*ast.SelectorExpr); ok && slices.Contains(methods, s.Sel.Name) {
+					called++
+				}
+			}
+			return true
+		})
+	}
+	return called
+}
