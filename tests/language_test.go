@@ -474,3 +474,35 @@ func callsOf(decls []ast.Decl, of string, methods []string) int {
 	}
 	return called
 }
+
+// The ways of the twelfth stage: a type switch whose cases are kinds of acts, and
+// a goroutine that tells by a channel, which it closes and which is ranged over.
+func TestTheWorldHasItsWays(t *testing.T) {
+	acts, starts, closes, ranges := 0, 0, 0, 0
+	ast.Inspect(parsed(t, token.NewFileSet(), "../impl/l12_world.go"), func(n ast.Node) bool {
+		switch x := n.(type) {
+		case *ast.TypeSwitchStmt:
+			for _, c := range x.Body.List {
+				for _, of := range c.(*ast.CaseClause).List {
+					if strings.HasSuffix(types.ExprString(of), "Act") {
+						acts++
+					}
+				}
+			}
+		case *ast.GoStmt:
+			starts++
+		case *ast.DeferStmt:
+			if types.ExprString(x.Call.Fun) == "close" {
+				closes++
+			}
+		case *ast.RangeStmt:
+			if types.ExprString(x.X) == "told" {
+				ranges++
+			}
+		}
+		return true
+	})
+	if acts == 0 || starts != 1 || closes != 1 || ranges == 0 {
+		t.Errorf("%d kinds of acts in type switches, %d goroutines, %d channels closed, %d ranged over", acts, starts, closes, ranges)
+	}
+}
