@@ -506,3 +506,37 @@ func TestTheWorldHasItsWays(t *testing.T) {
 		t.Errorf("%d kinds of acts in type switches, %d goroutines, %d channels closed, %d ranged over", acts, starts, closes, ranges)
 	}
 }
+
+// The ways of the thirteenth stage: pages that are bits of a number, which are
+// counted, and a loop with a label that is gone on with from within another.
+func TestTheAuditHasItsWays(t *testing.T) {
+	bitwise, counted, labels, jumps := 0, 0, map[string]bool{}, 0
+	file := parsed(t, token.NewFileSet(), "../impl/l13_audit.go")
+	ast.Inspect(file, func(n ast.Node) bool {
+		switch x := n.(type) {
+		case *ast.AssignStmt:
+			if x.Tok == token.OR_ASSIGN || x.Tok == token.AND_ASSIGN {
+				bitwise++
+			}
+		case *ast.CallExpr:
+			if strings.HasPrefix(types.ExprString(x.Fun), "bits.OnesCount") {
+				counted++
+			}
+		case *ast.LabeledStmt:
+			switch x.Stmt.(type) {
+			case *ast.RangeStmt, *ast.ForStmt:
+				labels[x.Label.Name] = true
+			}
+		}
+		return true
+	})
+	ast.Inspect(file, func(n ast.Node) bool {
+		if x, ok := n.(*ast.BranchStmt); ok && x.Label != nil && labels[x.Label.Name] {
+			jumps++
+		}
+		return true
+	})
+	if bitwise == 0 || counted == 0 || len(labels) == 0 || jumps == 0 {
+		t.Errorf("%d sets of bits, %d counted, labels %v, %d jumps to one", bitwise, counted, labels, jumps)
+	}
+}
