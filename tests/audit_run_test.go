@@ -131,6 +131,7 @@ func (a *audited) act() impl.WorldAct {
 // The theorem of the whole, of a world that began new, whatever comes, and
 // wherever the power goes.
 func TestRunsOfAuditedWorlds(t *testing.T) {
+	t.Parallel()
 	r := rand.New(rand.NewSource(132))
 	seen := map[string]int{}
 	for i := range 14 {
@@ -180,6 +181,7 @@ func TestEachActIsAuditedWhenThePowerGoes(t *testing.T) {
 // The power that goes between any two writes of a commit, by a disk that is cut
 // by hand.
 func TestCutsAreAudited(t *testing.T) {
+	t.Parallel()
 	r := rand.New(rand.NewSource(134))
 	cuts := 0
 	for range 12 {
@@ -219,6 +221,7 @@ func TestCutsAreAudited(t *testing.T) {
 // A world at its last generations, and one of few free pages, leak nothing
 // either.
 func TestFullWorldsAreAudited(t *testing.T) {
+	t.Parallel()
 	r := rand.New(rand.NewSource(135))
 	seen := map[string]int{}
 	for range 2 {

@@ -2,12 +2,20 @@ package tests
 
 import (
 	"math/rand"
+	"runtime/debug"
 	"slices"
 	"strings"
 	"testing"
 
 	"loop.example/g00340/impl"
 )
+
+// The tests make much that is dropped at once: with rarer collections they take
+// half the time.
+func TestMain(m *testing.M) {
+	debug.SetGCPercent(400)
+	m.Run()
+}
 
 // guarded lays a list into memory with room behind its end, filled with mark;
 // the check tells whether list or room was written into.

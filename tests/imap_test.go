@@ -359,6 +359,7 @@ func TestWhatIsTakenIsRead(t *testing.T) {
 // the answers those that are due; the run as a whole answers as its steps, and
 // validities rise from its beginning to its end.
 func TestRunsOfCommands(t *testing.T) {
+	t.Parallel()
 	r := rand.New(rand.NewSource(101))
 	ends := map[string]int{}
 	for i := range 120 {

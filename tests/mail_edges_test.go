@@ -319,6 +319,7 @@ func someStores() [][]impl.Pair {
 // All arguments of a few sorts in all ways together, held against the calls
 // that are done by hand.
 func TestMailCodesTogether(t *testing.T) {
+	t.Parallel()
 	names := []string{"ann", "cid", "inbox", "work", "none", "9", long(65537)}
 	codes := map[int]int{}
 	for _, call := range mailCalls() {

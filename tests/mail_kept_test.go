@@ -55,6 +55,7 @@ func mailApart(t *testing.T, list []impl.Pair, a mailAsk) {
 }
 
 func TestMailCallsKeepApart(t *testing.T) {
+	t.Parallel()
 	lists := append(someStores(), []impl.Pair{}, manyPairs(60), manyPairs(61), manyPairs(4097))
 	for _, list := range rightMail() {
 		lists = append(lists, list)

@@ -292,6 +292,7 @@ func someAsk(r *rand.Rand) mailAsk {
 
 // Runs of calls, each held against one that is done by hand key by key.
 func TestRunsOfMailCalls(t *testing.T) {
+	t.Parallel()
 	r := rand.New(rand.NewSource(72))
 	codes, done := map[int]int{}, map[string]int{}
 	for range 60 {

@@ -292,6 +292,7 @@ func restoreStores() [][]impl.Pair {
 // All arguments of a few sorts in all ways together, held against the calls
 // that are done by hand.
 func TestRestoringCodesTogether(t *testing.T) {
+	t.Parallel()
 	names := []string{"ann", "cid", "pad", "inbox", "work", "a", "9", long(65537)}
 	codes := map[int]int{}
 	for _, now := range restoreStores() {

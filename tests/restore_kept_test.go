@@ -51,6 +51,7 @@ func restoreAsks() []restoreAsk {
 }
 
 func TestRestoringKeepsApart(t *testing.T) {
+	t.Parallel()
 	lists := append(restoreStores(), []impl.Pair{}, manyPairs(60), manyPairs(61), noPairs()["a mail store backwards"])
 	for _, now := range lists {
 		for _, snap := range lists {

@@ -153,6 +153,7 @@ func TestWhatIsLostComesBack(t *testing.T) {
 // Runs of calls on a mail store with snapshots of it, each restoring held
 // against one that is done by hand.
 func TestRunsOfRestoring(t *testing.T) {
+	t.Parallel()
 	r := rand.New(rand.NewSource(84))
 	codes, done := map[int]int{}, map[bool]int{}
 	users, folders := []string{"a", "ann", "b", "none", "9"}, []string{"in", "inbox", "inboxx", "w", "none", "9"}

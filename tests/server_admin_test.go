@@ -336,6 +336,7 @@ func TestCodesOfNewUsers(t *testing.T) {
 
 // All parts of an act in all ways together, on several servers.
 func TestActsTogether(t *testing.T) {
+	t.Parallel()
 	servers := []impl.Server{grownTown(), fourSnaps(), quotaTown(), crammed(), deepServer(), atGen(grownTown(), 200), crowded(grownTown(), 0), crowded(grownTown(), 9), shaken(grownTown(), 1, 0, 1), serverOf(mailWith(town(), "v", "10000"), old{"one", 0, town()}), downByHand(grownTown().Store.Disk.Sectors, 20), {}}
 	codes := map[int]int{}
 	for _, s := range servers {

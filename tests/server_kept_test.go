@@ -126,6 +126,7 @@ func keptAsks() []serverAsk {
 }
 
 func TestServerCallsKeepApart(t *testing.T) {
+	t.Parallel()
 	servers := rightServers()
 	busy := busyTown()
 	servers["busy"], servers["busy, armed"], servers["busy, no room"] = busy, shaken(busy, 1, 0, 1), crowded(busy, 0)
@@ -288,6 +289,7 @@ func TestAnyServersInAnyOrder(t *testing.T) {
 
 // Lines of any bytes, to each sort of session.
 func TestAnyLinesToAServer(t *testing.T) {
+	t.Parallel()
 	r := rand.New(rand.NewSource(115))
 	for range 800 {
 		s := taking(reading(grownTown(), 1, openImaps()[r.Intn(8)]), 0, openSmtps()[r.Intn(10)])

@@ -244,6 +244,7 @@ func changingLines() map[string]bool {
 // Where PutPairs has a code the store is as it was, also on its disk: a session
 // that takes mail is as behind the line, one that reads as it was.
 func TestNoRoom(t *testing.T) {
+	t.Parallel()
 	base := deepServer()
 	for what, row := range map[string]struct {
 		s    impl.Server

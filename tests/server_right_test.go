@@ -280,6 +280,7 @@ func tooLong() []serverAsk {
 
 // All right servers and all calls together.
 func TestServersAndCallsTogether(t *testing.T) {
+	t.Parallel()
 	codes := map[int]int{}
 	for what, s := range rightServers() {
 		for _, a := range append(serverAsks(), tooLong()...) {

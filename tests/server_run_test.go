@@ -140,6 +140,7 @@ func (run *serverRun) note(a serverAsk, got serverTold) {
 // answered lasts, and behind a restart there is that, or that and the one thing
 // that was under way.
 func TestRunsOfAServer(t *testing.T) {
+	t.Parallel()
 	r := rand.New(rand.NewSource(112))
 	seen := map[string]int{}
 	for i := range 20 {

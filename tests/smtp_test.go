@@ -216,6 +216,7 @@ func TestMailsTillThereIsNoRoom(t *testing.T) {
 // Runs of any lines: behind each the session and the mail store are right, and
 // the answers those that are due; the run as a whole answers as its steps.
 func TestRunsOfLines(t *testing.T) {
+	t.Parallel()
 	r := rand.New(rand.NewSource(91))
 	replies := map[string]int{}
 	for i := range 150 {

@@ -322,6 +322,7 @@ func (run *snapRun) holds(t *testing.T) {
 // the power goes and the disk is opened again now and then: behind each one
 // the store and its snapshots are as the model has them.
 func TestRunsOfSnapshots(t *testing.T) {
+	t.Parallel()
 	r := rand.New(rand.NewSource(20))
 	for range 25 {
 		run := &snapRun{storeRun{s: impl.NewStore(), snaps: map[string][]impl.Pair{}}, map[string]int{}}

@@ -88,6 +88,7 @@ func TestPowerGoesAtThePages(t *testing.T) {
 }
 
 func TestPowerGoesAtAPut(t *testing.T) {
+	t.Parallel()
 	r := rand.New(rand.NewSource(18))
 	for _, of := range []string{"new", "two leaves", "trees that share a leaf", "MaxSnaps", "one below MaxGen"} {
 		s := rightStores()[of]

@@ -113,6 +113,7 @@ func allStores() map[string]impl.Store {
 }
 
 func TestStoreCallsKeepApart(t *testing.T) {
+	t.Parallel()
 	heaps := []impl.Heap{{}, laidOn(nil), twoTrees(), with(two(), 9, leaf("z"))}
 	snaps := [][]impl.Snap{nil, {}, {snap("a", 5, 3), snap("b", 9, 4)}, {snap("old", 6, 258)}, {snap("b", 5, 3), snap("a", 9, 4)}, make([]impl.Snap, 4097)}
 	lists := [][]impl.Pair{nil, {}, keyed("a", "b", "c", "d"), keyed("a", "bb", "z"), keyed("b", "a"), manyPairs(60), manyPairs(4097)}

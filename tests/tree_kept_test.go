@@ -125,6 +125,7 @@ func allTrees() map[string]rooted {
 }
 
 func TestChangesKeepApart(t *testing.T) {
+	t.Parallel()
 	steps := []step{put("a"), put("bb"), put("k"), put("z"), put(""), put(long(31)), put(long(65537)), drop("a"), drop("c"), drop("k"), drop("no"), drop(long(65537))}
 	_, kept := occupied(two())
 	for _, tree := range allTrees() {

@@ -288,6 +288,7 @@ func TestNoRoomThatIsDue(t *testing.T) {
 // server is as it is behind that; unless the act leads from both to one state:
 // a folder or a user that is restored where they differ, a snapshot that goes.
 func TestLost(t *testing.T) {
+	t.Parallel()
 	s := busyTown()
 	state := stateOnStore(s.Store)
 	others := otherStatesOf(state)

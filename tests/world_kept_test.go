@@ -129,6 +129,7 @@ func keptActs() []impl.WorldAct {
 }
 
 func TestWorldCallsKeepApart(t *testing.T) {
+	t.Parallel()
 	worlds := fullWorlds()
 	worlds["new"], worlds["busy"], worlds["armed"], worlds["down"] = impl.NewWorld(), busyWorld(), worldOf(shaken(busyTown(), 1, 0, 1)), downWorld()
 	worlds["four snapshots"], worlds["four, armed"] = worldOf(fourSnaps()), worldOf(shaken(fourSnaps(), 1, 1))

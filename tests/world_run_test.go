@@ -129,6 +129,7 @@ func thenActs() []impl.WorldAct {
 // all and some of the writes kept, or behind it, and once more in the next one.
 // What was answered lasts.
 func TestWhatWasAnsweredLasts(t *testing.T) {
+	t.Parallel()
 	ready := mustWorldRun(t, "ready", readyActs())
 	if ready.Lost || !ready.Server.Up || len(ready.Done.Snaps) != 1 {
 		t.Fatalf("Lost %t, Up %t, %v", ready.Lost, ready.Server.Up, ready.Done)
@@ -280,6 +281,7 @@ func (c *worldCourse) step(t *testing.T) {
 }
 
 func TestRunsOfAWorld(t *testing.T) {
+	t.Parallel()
 	r := rand.New(rand.NewSource(122))
 	seen := map[string]int{}
 	for i := range 9 {

@@ -291,6 +291,7 @@ func TestArmsOfAWorld(t *testing.T) {
 
 // All right worlds and acts of all sorts together.
 func TestWorldsAndActsTogether(t *testing.T) {
+	t.Parallel()
 	acts := slices.Concat(someActs(), longActs()[:4], worldActs(changers()...), worldActs(toTaker(0, "quit"), toReader(1, "a list"), toReader(0, "a login ann apple"), snapNow("one"), userMore("ann", "x"), folderBack("one", "none", "inbox"), crashing(), arming()))
 	codes, lost, doubts := map[int]int{}, 0, 0
 	i := 0
