@@ -540,3 +540,29 @@ func TestTheAuditHasItsWays(t *testing.T) {
 		t.Errorf("%d sets of bits, %d counted, labels %v, %d jumps to one", bitwise, counted, labels, jumps)
 	}
 }
+
+// The ways of the fourteenth stage: a function that gives an iterator over
+// snapshots, and a loop that ranges over it.
+func TestTheArchiveHasItsWays(t *testing.T) {
+	iterators, ranges := map[string]bool{}, 0
+	file := parsed(t, token.NewFileSet(), "../impl/l14_archive.go")
+	for _, d := range file.Decls {
+		if f, ok := d.(*ast.FuncDecl); ok && f.Type.Results != nil && len(f.Type.Results.List) == 1 {
+			of := types.ExprString(f.Type.Results.List[0].Type)
+			iterators[f.Name.Name] = strings.HasPrefix(of, "iter.Seq") && strings.Contains(of, "Snap")
+		}
+	}
+	ast.Inspect(file, func(n ast.Node) bool {
+		if x, ok := n.(*ast.RangeStmt); ok {
+			if call, ok := x.X.(*ast.CallExpr); ok {
+				if s, ok := call.Fun.(*ast.SelectorExpr); ok && iterators[s.Sel.Name] {
+					ranges++
+				}
+			}
+		}
+		return true
+	})
+	if ranges == 0 {
+		t.Errorf("no loop ranges over an iterator: %v", iterators)
+	}
+}

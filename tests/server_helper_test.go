@@ -437,6 +437,9 @@ func packed(list []impl.Pair, olds ...old) impl.Server {
 }
 
 func layPacked(h impl.Heap, list []impl.Pair) int {
+	if len(list) == 0 {
+		return -1
+	}
 	var row []kid
 	for some := range slices.Chunk(list, 3) {
 		row = append(row, kid{layFirst(h, impl.Node{Leaf: true, Pairs: some}), some[0].Key})
