@@ -566,3 +566,52 @@ func TestTheArchiveHasItsWays(t *testing.T) {
 		t.Errorf("no loop ranges over an iterator: %v", iterators)
 	}
 }
+
+// The ways of the fifteenth stage: lines that strings.Cut cuts, words that a loop
+// over bytes finds, and a function literal that is deferred, which recovers and
+// puts something else in the place of what there was.
+func TestTheConsoleHasItsWays(t *testing.T) {
+	cuts, splits, bytes, recovers := 0, 0, 0, 0
+	ast.Inspect(parsed(t, token.NewFileSet(), "../impl/l15_console.go"), func(n ast.Node) bool {
+		switch x := n.(type) {
+		case *ast.CallExpr:
+			switch types.ExprString(x.Fun) {
+			case "strings.Cut":
+				cuts++
+			case "strings.Fields", "strings.FieldsFunc", "strings.Split":
+				splits++
+			}
+		case *ast.BinaryExpr:
+			if _, ok := x.X.(*ast.IndexExpr); ok && (x.Op == token.EQL || x.Op == token.NEQ) {
+				bytes++
+			}
+		case *ast.DeferStmt:
+			if lit, ok := x.Call.Fun.(*ast.FuncLit); ok {
+				recovers += recoveries(lit)
+			}
+		}
+		return true
+	})
+	if cuts == 0 || splits > 0 || bytes == 0 || recovers != 1 {
+		t.Errorf("%d texts cut, %d split, %d bytes looked at, %d recoveries", cuts, splits, bytes, recovers)
+	}
+}
+
+// recoveries counts the conditions of a deferred literal that ask for a panic,
+// and assign something where there was one.
+func recoveries(lit *ast.FuncLit) int {
+	n := 0
+	ast.Inspect(lit, func(m ast.Node) bool {
+		x, ok := m.(*ast.IfStmt)
+		if !ok || types.ExprString(x.Cond) != "recover() != nil" {
+			return true
+		}
+		for _, s := range x.Body.List {
+			if _, ok := s.(*ast.AssignStmt); ok {
+				n++
+			}
+		}
+		return true
+	})
+	return n
+}
